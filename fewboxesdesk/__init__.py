@@ -1,0 +1,1 @@
+"""Binder: boxes. Files stand in their order, in boxes that hold them."""
