@@ -6,9 +6,14 @@ TAKE = 3
 GROW = 4
 COUNT = 5
 WHERE = 6
+BOX = 7
+FILES = 8
+SEEK = 9
+LEAST = 10
+PACK = 11
 
 # How many numbers stand behind each call's number.
-ARGUMENTS = {1: 1, 2: 3, 3: 1, 4: 2, 5: 0, 6: 1}
+ARGUMENTS = {1: 1, 2: 3, 3: 1, 4: 2, 5: 0, 6: 1, 7: 1, 8: 1, 9: 1, 10: 0, 11: 0}
 
 NO_SHELF = -9
 NOT_GRANTED = -1
@@ -27,6 +32,9 @@ CHANGED = 64
 
 # Stands for a box, or for the box a file stood in, where there was none before.
 NEW = -1
+
+# What is answered for a box in the row where there is none.
+NO_BOX = -1
 
 # How far from the file's place a box can be changed at all. A file that grows or
 # comes within a box can have a new box, and those behind it there another: 3
@@ -254,6 +262,82 @@ def where(shelf, f):
     return [0, number, place, index, before]
 
 
+def tell_box(shelf, at):
+    if at >= len(shelf.boxes):
+        return [NOT_THERE]
+    number = shelf.boxes[at][0]
+    files = shelf.boxes[at][1]
+    held = sum([shelf.thick_of[f] for f in files])
+    return [len(files), number, files[0], shelf.room - held]
+
+
+def tell_files(shelf, at):
+    if at >= len(shelf.boxes):
+        return [NOT_THERE]
+    files = shelf.boxes[at][1]
+    return [len(files)] + files
+
+
+def seek(shelf, key):
+    if key > MOST_KEY:
+        return [NOT_GRANTED]
+    lesser = 0
+    for place, box in enumerate(shelf.boxes):
+        for f in box[1]:
+            if shelf.key_of[f] >= key:
+                return [lesser, place]
+            lesser = lesser + 1
+    return [lesser, NO_BOX]
+
+
+def filled_from_front(shelf):
+    # Each box ends as far behind as it can, so the next one begins as far behind
+    # as it can: no other row that holds all files has fewer boxes.
+    files = []
+    for box in shelf.boxes:
+        files.extend(box[1])
+    ends = latest_ends([shelf.thick_of[f] for f in files], shelf.room)
+    filled = []
+    start = 0
+    while start < len(files):
+        filled.append(files[start:ends[start]])
+        start = ends[start]
+    return filled
+
+
+def least(shelf):
+    return [len(filled_from_front(shelf))]
+
+
+def pack(shelf):
+    filled = filled_from_front(shelf)
+    changed = len(shelf.boxes) - len(filled)
+    moved = 0
+    boxes = []
+    # There are never more filled boxes than stand there, so none is new.
+    for box, files in zip(shelf.boxes, filled):
+        if files != box[1]:
+            changed = changed + 1
+        moved = moved + len([f for f in files if f not in box[1]])
+        boxes.append((box[0], files))
+    shelf.boxes = boxes
+    return [len(boxes), changed, moved, 0]
+
+
+def look_at(shelf, call, numbers):
+    if call == COUNT:
+        return count_all(shelf)
+    if call == WHERE:
+        return where(shelf, numbers[0])
+    if call == BOX:
+        return tell_box(shelf, numbers[0])
+    if call == FILES:
+        return tell_files(shelf, numbers[0])
+    if call == SEEK:
+        return seek(shelf, numbers[0])
+    return least(shelf)
+
+
 def answer_on(shelf, call, numbers):
     if call == PUT:
         return put(shelf, numbers[0], numbers[1], numbers[2])
@@ -261,9 +345,9 @@ def answer_on(shelf, call, numbers):
         return take(shelf, numbers[0])
     if call == GROW:
         return grow(shelf, numbers[0], numbers[1])
-    if call == COUNT:
-        return count_all(shelf)
-    return where(shelf, numbers[0])
+    if call == PACK:
+        return pack(shelf)
+    return look_at(shelf, call, numbers)
 
 
 def answers(calls):

@@ -9,10 +9,12 @@ import unittest
 from unittest import mock
 
 from fewboxesdesk.shelf import answers
-from reference import begin, count, grow, put, read, take, where, written
+from reference import begin, box_at, count, files_at, grow, least, pack, put, read, seek, take, where, written
 
 CALLS = written([begin(10), put(1, 10, 6), put(2, 20, 4), put(3, 30, 5), put(4, 15, 3), put(5, 40, 9), grow(4, 5),
-                 take(5), where(3), count(), where(16384), put(1, 1, 1), begin(2 ** 65 - 1), begin(3), count()])
+                 take(5), where(3), count(), where(16384), put(1, 1, 1), box_at(0), files_at(1), least(), seek(16),
+                 pack(), files_at(1), box_at(2 ** 65 - 1), seek(2 ** 64), begin(2 ** 65 - 1), begin(3), count(), pack(),
+                 least()])
 
 
 class OnlyRead(list):
@@ -58,7 +60,8 @@ class TheInterface(unittest.TestCase):
     def test_two_calls_know_nothing_of_each_other(self):
         wanted = answers(CALLS)
         self.assertEqual(answers(written([count(), where(1), put(1, 1, 1)])), [1, -9, 1, -9, 1, -9])
-        answers(written([begin(7), put(1, 1, 7), put(2, 2, 7)]))
+        self.assertEqual(answers(written([box_at(0), files_at(0), seek(0), least(), pack()])), [1, -9] * 5)
+        answers(written([begin(7), put(1, 1, 7), put(2, 2, 7), grow(1, 1), grow(2, 1), pack()]))
         self.assertEqual(answers(CALLS), wanted)
         self.assertEqual(answers(written([begin(7), count()])), [1, 0, 4, 0, 0, 0, 0])
         self.assertEqual(answers([]), [])
@@ -66,9 +69,10 @@ class TheInterface(unittest.TestCase):
     def test_the_greatest_numbers_that_are_handed_in(self):
         most = 36893488147419103231
         calls = [begin(most), begin(10000), put(most, 1, 1), put(1, most, 1), put(1, 1, most), put(most, most, most),
-                 take(most), grow(most, most), grow(1, most), where(most), put(1, 1, 1), grow(1, most), count()]
+                 take(most), grow(most, most), grow(1, most), where(most), put(1, 1, 1), grow(1, most), seek(most),
+                 box_at(most), files_at(most), count()]
         self.assertEqual(read(answers(written(calls))),
-                         [[-1], [0]] + [[-1]] * 8 + [[1, 1, 0, 1], [-1], [1, 1, 1, 1]])
+                         [[-1], [0]] + [[-1]] * 8 + [[1, 1, 0, 1], [-1], [-1], [-4], [-4], [1, 1, 1, 1]])
 
     def test_it_prints_reads_and_imports_nothing(self):
         wanted = answers(CALLS)

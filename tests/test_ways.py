@@ -9,7 +9,7 @@ from unittest import mock
 
 from fewboxesdesk import shelf
 from fewboxesdesk.shelf import answers
-from reference import Reference, begin, count, grow, put, read, take, where, written
+from reference import Reference, begin, count, grow, pack, put, read, take, ways_by_search, where, written
 
 
 def looked_at(calls, there):
@@ -61,6 +61,29 @@ def crowded_row(rng, most, steps, room, thick):
     return calls
 
 
+def packed_row(rng, most, steps, room, thick):
+    """Boxes stand with one file each and are packed; then files come, go and grow, now and then packed again."""
+    there = set(range(0, 2 * (most - 2), 2))
+    calls = [begin(room)] + [put(f, f // 4, room) for f in sorted(there)]
+    calls += [grow(f, rng.randint(1, thick)) for f in sorted(there)] + [pack()]
+    for step in range(steps):
+        kind = rng.random()
+        if kind < 0.35 and len(there) < most:
+            f = rng.choice([g for g in range(2 * most) if g not in there])
+            there.add(f)
+            calls.append(put(f, rng.randint(0, most // 2), rng.randint(1, thick)))
+        elif kind < 0.75:
+            calls.append(grow(rng.choice(sorted(there)), rng.randint(1, room)))
+        elif kind < 0.85 and len(there) > 1:
+            f = rng.choice(sorted(there))
+            there.discard(f)
+            calls.append(take(f))
+        else:
+            calls.append(pack())
+        calls = looked_at(calls, there)
+    return calls
+
+
 class OfAllWays(unittest.TestCase):
     def rows_are_answered_by_the_words(self, make_row, seed, rows, most, steps, rooms):
         ties = many_changed = 0
@@ -97,6 +120,23 @@ class OfAllWays(unittest.TestCase):
         ties, many = self.rows_are_answered_by_the_words(mixed_row, 4, 12, 7, 25, (2, 3, 4, 6))
         self.assertGreater(ties, 5)
         self.assertGreater(many, 10)
+
+
+    def test_rows_that_are_packed(self):
+        ties, many = self.rows_are_answered_by_the_words(packed_row, 5, 150, 6, 12, (2, 3, 4, 5, 6, 8, 10, 12))
+        self.assertGreater(ties, 100)
+        self.assertGreater(many, 150)
+
+    def test_the_search_of_the_whole_row_finds_the_first_of_all_ways(self):
+        # The long rows are measured by this search, so it is measured by the words itself.
+        for number in range(120):
+            rng = random.Random(number)
+            room = rng.choice((1, 2, 3, 5, 8, 10))
+            make_row = rng.choice([mixed_row, crowded_row, packed_row])
+            calls = make_row(rng, 5, 12, room, rng.choice([1, max(1, room // 2), room]))
+            by_words, by_search = Reference(), Reference(ways_by_search)
+            for call in calls:
+                self.assertEqual(by_search.answer(call), by_words.answer(call), calls)
 
 
 class NearTheFile(unittest.TestCase):
@@ -150,7 +190,6 @@ class OfAsFewTheFirst(unittest.TestCase):
         # 9 comes between 1 and 2 and stands with either; either stays in box 0: 2 changed, 1 moved each time.
         calls = [begin(10), put(1, 10, 4), put(2, 20, 4), put(9, 15, 5)]
         self.assertEqual(self.taken(calls, [1, 9, 2]), ([2, 2, 1, 1], [[0, 0], [0, 0], [1, 1]]))
-
 
 
 if __name__ == "__main__":
